@@ -1,0 +1,101 @@
+// Package sheet: a screen while it is being changed, for the layers that change screens. See doc/05-put.md.
+package sheet
+
+import (
+	"slices"
+	"strings"
+
+	"trellis/api"
+	"trellis/grid"
+)
+
+// Sheet: a screen, its cells held row by row. A row's cells are never written to, only others are taken in their place: so rows may be moved about, and be those of the screen that was handed in, until the end.
+type Sheet struct {
+	api.Screen
+	rows [][]api.Cell
+}
+
+// Change: s, as do makes it; nothing but e, if that is an error of s.
+func Change(s api.Screen, e api.Errno, do func(*Sheet)) (api.Screen, api.Errno) {
+	if e != api.OK {
+		return api.Screen{}, e
+	}
+	p := open(s)
+	do(p)
+	return p.whole(), api.OK
+}
+
+func open(s api.Screen) *Sheet {
+	p := &Sheet{s, slices.Collect(slices.Chunk(s.G.Cells, s.G.W))}
+	p.Tabs = slices.Clone(s.Tabs)
+	p.Title = strings.Clone(s.Title)
+	p.Gone = slices.Clone(s.Gone)
+	return p
+}
+
+// whole: the screen, which shares nothing with the one that was handed in.
+func (p *Sheet) whole() api.Screen {
+	s := p.Screen
+	s.G.Cells = slices.Concat(p.rows...)
+	for i, row := range s.Gone {
+		s.Gone[i] = slices.Clone(row)
+	}
+	return s
+}
+
+// Has: are these bits set in Modes?
+func (p *Sheet) Has(bits int) bool { return p.Modes&bits == bits }
+
+// blank: what stands where nothing is.
+func (p *Sheet) blank() api.Cell { return api.Cell{R: ' ', S: api.Style{Back: p.S.Back}} }
+
+// alter Y's row as how does, which is given it as a grid. (What is right stays so: no step within how fails.)
+func (p *Sheet) alter(how func(api.Grid) api.Grid) {
+	row := api.Grid{W: p.G.W, H: 1, Cells: p.rows[p.Y]}
+	p.rows[p.Y] = how(row).Cells
+}
+
+// Write r over the cells from X on, in the style S.
+func (p *Sheet) Write(r rune) {
+	p.alter(func(row api.Grid) api.Grid {
+		row, _ = grid.Write(row, p.X, 0, string(r), p.S)
+		return row
+	})
+}
+
+// MakeRoom: the cells from X on go n to the right. What they leave behind is to be overwritten.
+func (p *Sheet) MakeRoom(n int) {
+	p.alter(func(row api.Grid) api.Grid {
+		tail, _ := grid.Part(row, api.Rect{X: p.X, W: row.W - p.X, H: 1})
+		row, _ = grid.Lay(tail, row, p.X+n, 0)
+		return row
+	})
+}
+
+// Up: the rows from top on move up, once.
+func (p *Sheet) Up(top int) {
+	if top == 0 {
+		p.keep(p.rows[0])
+	}
+	p.rows = slices.Delete(p.rows, top, top+1)
+	p.rows = slices.Insert(p.rows, p.Bottom, slices.Repeat([]api.Cell{p.blank()}, p.G.W))
+}
+
+// keep row behind all that is gone.
+func (p *Sheet) keep(row []api.Cell) {
+	p.Gone = append(p.Gone, row)
+	if len(p.Gone) > api.MaxHistory {
+		p.Gone = slices.Delete(p.Gone, 0, 1)
+	}
+}
+
+// Feed: to the next row; at Bottom that one comes up.
+func (p *Sheet) Feed() {
+	p.Late = false
+	switch {
+	case p.Y == p.Bottom:
+		p.Up(p.Top)
+	case p.Y < p.G.H-1:
+		p.Y++
+	}
+}

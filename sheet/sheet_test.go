@@ -1,0 +1,81 @@
+package sheet
+
+import (
+	"reflect"
+	"slices"
+	"testing"
+
+	"trellis/api"
+)
+
+// column: a screen of one column.
+func column(runes string) api.Screen {
+	s := api.Screen{G: api.Grid{W: 1, H: len(runes)}, Bottom: len(runes) - 1, Modes: api.Wrap, Tabs: []bool{true}, Title: "t"}
+	for _, r := range runes {
+		s.G.Cells = append(s.G.Cells, api.Cell{R: r})
+	}
+	return s
+}
+
+func textOf(cells []api.Cell) string {
+	var out []rune
+	for _, c := range cells {
+		out = append(out, c.R)
+	}
+	return string(out)
+}
+
+func TestChangeOfAWrongScreen(t *testing.T) {
+	got, e := Change(api.Screen{X: 3}, api.ErrSize, func(*Sheet) { t.Error("a wrong screen is changed") })
+	if e != api.ErrSize || !reflect.DeepEqual(got, api.Screen{}) {
+		t.Errorf("%+v, %d", got, e)
+	}
+}
+
+func TestChangeByNothing(t *testing.T) {
+	s := column("abc")
+	s.Gone = [][]api.Cell{{{R: 'x'}}, {{R: 'y'}}}
+	got, e := Change(s, api.OK, func(*Sheet) {})
+	if e != api.OK || !reflect.DeepEqual(got, s) {
+		t.Errorf("%+v, %d, want %+v", got, e, s)
+	}
+	if &got.G.Cells[0] == &s.G.Cells[0] || &got.Tabs[0] == &s.Tabs[0] || &got.Gone[0] == &s.Gone[0] || &got.Gone[1][0] == &s.Gone[1][0] {
+		t.Error("what is answered shares memory with what was handed in")
+	}
+}
+
+func TestUp(t *testing.T) {
+	for _, c := range []struct {
+		top, bottom, times int
+		want, gone         string
+	}{
+		{0, 3, 1, "bcd ", "a"},
+		{0, 3, 2, "cd  ", "ab"},
+		{0, 3, 5, "    ", "abcd "},
+		{0, 1, 1, "b cd", "a"},
+		{1, 3, 1, "acd ", ""},
+		{1, 2, 2, "a  d", ""},
+		{3, 3, 1, "abc ", ""},
+	} {
+		s := column("abcd")
+		s.Bottom = c.bottom
+		got, _ := Change(s, api.OK, func(p *Sheet) {
+			for range c.times {
+				p.Up(c.top)
+			}
+		})
+		if textOf(got.G.Cells) != c.want || textOf(slices.Concat(got.Gone...)) != c.gone {
+			t.Errorf("%+v: %q, gone %q", c, textOf(got.G.Cells), textOf(slices.Concat(got.Gone...)))
+		}
+		if textOf(s.G.Cells) != "abcd" {
+			t.Errorf("%+v: what was handed in is %q then", c, textOf(s.G.Cells))
+		}
+	}
+}
+
+func TestHas(t *testing.T) {
+	p := Sheet{Screen: api.Screen{Modes: api.Wrap | api.Paste}}
+	if !p.Has(api.Wrap) || !p.Has(api.Wrap|api.Paste) || p.Has(api.Insert) || p.Has(api.Insert|api.Wrap) {
+		t.Error("Has tells of other bits than Modes")
+	}
+}
