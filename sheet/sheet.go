@@ -49,15 +49,23 @@ func (p *Sheet) Has(bits int) bool { return p.Modes&bits == bits }
 // blank: what stands where nothing is.
 func (p *Sheet) blank() api.Cell { return api.Cell{R: ' ', S: api.Style{Back: p.S.Back}} }
 
-// alter Y's row as how does, which is given it as a grid. (What is right stays so: no step within how fails.)
-func (p *Sheet) alter(how func(api.Grid) api.Grid) {
-	row := api.Grid{W: p.G.W, H: 1, Cells: p.rows[p.Y]}
-	p.rows[p.Y] = how(row).Cells
+// alter the row y as how does, which is given it as a grid. (What is right stays so: no step within how fails.)
+func (p *Sheet) alter(y int, how func(api.Grid) api.Grid) {
+	row := api.Grid{W: p.G.W, H: 1, Cells: p.rows[y]}
+	p.rows[y] = how(row).Cells
+}
+
+// Clear the cells of the row y from the column first up to end, but not end itself.
+func (p *Sheet) Clear(y, first, end int) {
+	p.alter(y, func(row api.Grid) api.Grid {
+		row, _ = grid.Fill(row, api.Rect{X: first, W: end - first, H: 1}, p.blank())
+		return row
+	})
 }
 
 // Write r over the cells from X on, in the style S.
 func (p *Sheet) Write(r rune) {
-	p.alter(func(row api.Grid) api.Grid {
+	p.alter(p.Y, func(row api.Grid) api.Grid {
 		row, _ = grid.Write(row, p.X, 0, string(r), p.S)
 		return row
 	})
@@ -65,7 +73,7 @@ func (p *Sheet) Write(r rune) {
 
 // MakeRoom: the cells from X on go n to the right. What they leave behind is to be overwritten.
 func (p *Sheet) MakeRoom(n int) {
-	p.alter(func(row api.Grid) api.Grid {
+	p.alter(p.Y, func(row api.Grid) api.Grid {
 		tail, _ := grid.Part(row, api.Rect{X: p.X, W: row.W - p.X, H: 1})
 		row, _ = grid.Lay(tail, row, p.X+n, 0)
 		return row

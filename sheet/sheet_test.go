@@ -73,6 +73,38 @@ func TestUp(t *testing.T) {
 	}
 }
 
+func TestClear(t *testing.T) {
+	look, under := api.Style{Fore: 3, Back: 2, Bits: api.Bold}, api.Style{Fore: 5, Back: 6, Bits: api.Under}
+	cell := func(r rune, s api.Style) api.Cell { return api.Cell{R: r, S: s} }
+	a, wide, half, b := cell('a', under), cell('日', under), cell(0, under), cell('b', under)
+	blank, mended := cell(' ', api.Style{Back: 2}), cell(' ', under)
+	for _, c := range []struct {
+		first, end int
+		want       []api.Cell
+	}{
+		{0, 0, []api.Cell{a, wide, half, b}},
+		{4, 4, []api.Cell{a, wide, half, b}},
+		{0, 1, []api.Cell{blank, wide, half, b}},
+		{0, 2, []api.Cell{blank, blank, mended, b}},
+		{1, 3, []api.Cell{a, blank, blank, b}},
+		{2, 4, []api.Cell{a, mended, blank, blank}},
+		{3, 4, []api.Cell{a, wide, half, blank}},
+		{0, 4, []api.Cell{blank, blank, blank, blank}},
+	} {
+		for y := range 3 {
+			rows := slices.Repeat([]api.Cell{a, wide, half, b}, 3)
+			s := api.Screen{G: api.Grid{W: 4, H: 3, Cells: slices.Clone(rows)}, S: look, X: 3, Y: 1, Bottom: 2, Tabs: make([]bool, 4)}
+			got, _ := Change(s, api.OK, func(p *Sheet) { p.Clear(y, c.first, c.end) })
+			if want := slices.Replace(slices.Clone(rows), y*4, y*4+4, c.want...); !slices.Equal(got.G.Cells, want) {
+				t.Errorf("row %d from %d to %d: %v, want %v", y, c.first, c.end, got.G.Cells, want)
+			}
+			if !slices.Equal(s.G.Cells, rows) {
+				t.Errorf("row %d from %d to %d: what was handed in is %v then", y, c.first, c.end, s.G.Cells)
+			}
+		}
+	}
+}
+
 func TestHas(t *testing.T) {
 	p := Sheet{Screen: api.Screen{Modes: api.Wrap | api.Paste}}
 	if !p.Has(api.Wrap) || !p.Has(api.Wrap|api.Paste) || p.Has(api.Insert) || p.Has(api.Insert|api.Wrap) {
