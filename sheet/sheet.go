@@ -7,6 +7,7 @@ import (
 
 	"trellis/api"
 	"trellis/grid"
+	"trellis/halves"
 )
 
 // Sheet: a screen, its cells held row by row. A row's cells are never written to, only others are taken in their place: so rows may be moved about, and be those of the screen that was handed in, until the end.
@@ -49,6 +50,8 @@ func (p *Sheet) Has(bits int) bool { return p.Modes&bits == bits }
 // blank: what stands where nothing is.
 func (p *Sheet) blank() api.Cell { return api.Cell{R: ' ', S: api.Style{Back: p.S.Back}} }
 
+func (p *Sheet) blanks(n int) []api.Cell { return slices.Repeat([]api.Cell{p.blank()}, n) }
+
 // alter the row y as how does, which is given it as a grid. (What is right stays so: no step within how fails.)
 func (p *Sheet) alter(y int, how func(api.Grid) api.Grid) {
 	row := api.Grid{W: p.G.W, H: 1, Cells: p.rows[y]}
@@ -71,22 +74,45 @@ func (p *Sheet) Write(r rune) {
 	})
 }
 
-// MakeRoom: the cells from X on go n to the right. What they leave behind is to be overwritten.
-func (p *Sheet) MakeRoom(n int) {
-	p.alter(p.Y, func(row api.Grid) api.Grid {
-		tail, _ := grid.Part(row, api.Rect{X: p.X, W: row.W - p.X, H: 1})
-		row, _ = grid.Lay(tail, row, p.X+n, 0)
-		return row
+// Insert n blanks at X, which the row has room for: the cells from there on go to the right, and what leaves the row goes.
+func (p *Sheet) Insert(n int) {
+	p.relay(func(row []api.Cell) []api.Cell {
+		return slices.Concat(row[:p.X], p.blanks(n), row[p.X:len(row)-n])
 	})
 }
 
-// Up: the rows from top on move up, once.
+// Delete n cells from X on, which the row has: the others come to the left, and blanks behind them.
+func (p *Sheet) Delete(n int) {
+	p.relay(func(row []api.Cell) []api.Cell {
+		return slices.Concat(row[:p.X], row[p.X+n:], p.blanks(n))
+	})
+}
+
+// relay Y's row as how does, which answers new cells: runes may be cut by it, where cells part and where they meet.
+func (p *Sheet) relay(how func([]api.Cell) []api.Cell) {
+	row := how(p.rows[p.Y])
+	halves.Mend(row)
+	p.rows[p.Y] = row
+}
+
+// Up: the rows from top on move up, once; the first one of the screen is kept.
 func (p *Sheet) Up(top int) {
 	if top == 0 {
 		p.keep(p.rows[0])
 	}
-	p.rows = slices.Delete(p.rows, top, top+1)
-	p.rows = slices.Insert(p.rows, p.Bottom, slices.Repeat([]api.Cell{p.blank()}, p.G.W))
+	p.Drop(top)
+}
+
+// Drop the row top: those below it, up to Bottom, move up; nothing is kept.
+func (p *Sheet) Drop(top int) { p.replace(top, p.Bottom) }
+
+// Down: the rows from top on move down, once.
+func (p *Sheet) Down(top int) { p.replace(p.Bottom, top) }
+
+// replace the row gone by a blank one, which comes to stand at the row fresh; those between them make room.
+func (p *Sheet) replace(gone, fresh int) {
+	p.rows = slices.Delete(p.rows, gone, gone+1)
+	p.rows = slices.Insert(p.rows, fresh, p.blanks(p.G.W))
 }
 
 // keep row behind all that is gone.

@@ -105,6 +105,83 @@ func TestClear(t *testing.T) {
 	}
 }
 
+// Drop does as Up does, but keeps nothing.
+func TestDrop(t *testing.T) {
+	for _, c := range []struct {
+		top, bottom, times int
+		want               string
+	}{
+		{0, 3, 1, "bcd "}, {0, 3, 2, "cd  "}, {0, 3, 5, "    "}, {0, 1, 1, "b cd"}, {1, 3, 1, "acd "}, {1, 2, 2, "a  d"}, {3, 3, 1, "abc "},
+	} {
+		moveRows(t, c.bottom, c.times, c.want, func(p *Sheet) { p.Drop(c.top) })
+	}
+}
+
+func TestDown(t *testing.T) {
+	for _, c := range []struct {
+		top, bottom, times int
+		want               string
+	}{
+		{0, 3, 1, " abc"}, {0, 3, 2, "  ab"}, {0, 3, 5, "    "}, {0, 1, 1, " acd"}, {1, 3, 1, "a bc"}, {1, 2, 2, "a  d"}, {3, 3, 1, "abc "},
+	} {
+		moveRows(t, c.bottom, c.times, c.want, func(p *Sheet) { p.Down(c.top) })
+	}
+}
+
+// moveRows of a column of four by step: nothing is gone then but what was.
+func moveRows(t *testing.T, bottom, times int, want string, step func(*Sheet)) {
+	t.Helper()
+	s := column("abcd")
+	s.Bottom = bottom
+	s.Gone = [][]api.Cell{{{R: 'x'}}}
+	got, _ := Change(s, api.OK, func(p *Sheet) {
+		for range times {
+			step(p)
+		}
+	})
+	if textOf(got.G.Cells) != want || textOf(slices.Concat(got.Gone...)) != "x" {
+		t.Errorf("Bottom %d, %d times: %q, want %q; gone %q", bottom, times, textOf(got.G.Cells), want, textOf(slices.Concat(got.Gone...)))
+	}
+	if textOf(s.G.Cells) != "abcd" {
+		t.Errorf("Bottom %d, %d times: what was handed in is %q then", bottom, times, textOf(s.G.Cells))
+	}
+}
+
+func TestInsertAndDelete(t *testing.T) {
+	look, one, other := api.Style{Fore: 3, Back: 2, Bits: api.Bold}, api.Style{Fore: 5, Back: 6, Bits: api.Under}, api.Style{Fore: 1}
+	cell := func(r rune, s api.Style) api.Cell { return api.Cell{R: r, S: s} }
+	a, wide, half, next, rest := cell('a', one), cell('日', one), cell(0, one), cell('本', other), cell(0, other)
+	blank, mended, cut := cell(' ', api.Style{Back: 2}), cell(' ', one), cell(' ', other)
+	for _, c := range []struct {
+		x, n              int
+		inserted, deleted []api.Cell
+	}{
+		{0, 1, []api.Cell{blank, a, wide, half, cut}, []api.Cell{wide, half, next, rest, blank}},
+		{1, 1, []api.Cell{a, blank, wide, half, cut}, []api.Cell{a, mended, next, rest, blank}},
+		{1, 2, []api.Cell{a, blank, blank, wide, half}, []api.Cell{a, next, rest, blank, blank}},
+		{2, 1, []api.Cell{a, mended, blank, mended, cut}, []api.Cell{a, mended, next, rest, blank}},
+		{2, 2, []api.Cell{a, mended, blank, blank, mended}, []api.Cell{a, mended, cut, blank, blank}},
+		{4, 1, []api.Cell{a, wide, half, cut, blank}, []api.Cell{a, wide, half, cut, blank}},
+		{0, 5, []api.Cell{blank, blank, blank, blank, blank}, []api.Cell{blank, blank, blank, blank, blank}},
+	} {
+		for y := range 2 {
+			rows := slices.Repeat([]api.Cell{a, wide, half, next, rest}, 2)
+			s := api.Screen{G: api.Grid{W: 5, H: 2, Cells: slices.Clone(rows)}, S: look, X: c.x, Y: y, Bottom: 1, Tabs: make([]bool, 5)}
+			got, _ := Change(s, api.OK, func(p *Sheet) { p.Insert(c.n) })
+			if want := slices.Replace(slices.Clone(rows), y*5, y*5+5, c.inserted...); !slices.Equal(got.G.Cells, want) {
+				t.Errorf("Insert %d at %d, %d: %v, want %v", c.n, c.x, y, got.G.Cells, want)
+			}
+			got, _ = Change(s, api.OK, func(p *Sheet) { p.Delete(c.n) })
+			if want := slices.Replace(slices.Clone(rows), y*5, y*5+5, c.deleted...); !slices.Equal(got.G.Cells, want) {
+				t.Errorf("Delete %d at %d, %d: %v, want %v", c.n, c.x, y, got.G.Cells, want)
+			}
+			if !slices.Equal(s.G.Cells, rows) {
+				t.Errorf("%d at %d, %d: what was handed in is %v then", c.n, c.x, y, s.G.Cells)
+			}
+		}
+	}
+}
+
 func TestHas(t *testing.T) {
 	p := Sheet{Screen: api.Screen{Modes: api.Wrap | api.Paste}}
 	if !p.Has(api.Wrap) || !p.Has(api.Wrap|api.Paste) || p.Has(api.Insert) || p.Has(api.Insert|api.Wrap) {
