@@ -10,6 +10,12 @@ import (
 	"trellis/halves"
 )
 
+// AllModes of a screen, and those of them that are kept with the cursor.
+const (
+	AllModes  = api.Insert | api.Origin | api.Wrap | api.Hidden | api.Keypad | api.Paste
+	KeptModes = api.Origin | api.Wrap
+)
+
 // Sheet: a screen, its cells held row by row. A row's cells are never written to, only others are taken in their place: so rows may be moved about, and be those of the screen that was handed in, until the end.
 type Sheet struct {
 	api.Screen
@@ -46,6 +52,17 @@ func (p *Sheet) whole() api.Screen {
 
 // Has: are these bits set in Modes?
 func (p *Sheet) Has(bits int) bool { return p.Modes&bits == bits }
+
+// Home: the cursor goes to the first cell of the screen, or, with Origin, of the rows that scroll.
+func (p *Sheet) Home() {
+	p.X, p.Y, p.Late = 0, 0, false
+	if p.Has(api.Origin) {
+		p.Y = p.Top
+	}
+}
+
+// Become s, which takes the place of all that there is.
+func (p *Sheet) Become(s api.Screen) { *p = *open(s) }
 
 // blank: what stands where nothing is.
 func (p *Sheet) blank() api.Cell { return api.Cell{R: ' ', S: api.Style{Back: p.S.Back}} }

@@ -188,3 +188,50 @@ func TestHas(t *testing.T) {
 		t.Error("Has tells of other bits than Modes")
 	}
 }
+
+func TestModes(t *testing.T) {
+	if AllModes != 63 || KeptModes != 6 {
+		t.Errorf("all modes are %d, those that are kept %d", AllModes, KeptModes)
+	}
+}
+
+func TestHome(t *testing.T) {
+	for _, c := range []struct{ modes, top, want int }{
+		{0, 0, 0}, {0, 2, 0}, {api.Wrap, 1, 0}, {api.Origin, 0, 0}, {api.Origin, 1, 1}, {api.Origin | api.Wrap, 2, 2},
+	} {
+		for y := range 4 {
+			s := column("abcd")
+			s.Modes, s.Top, s.Y, s.Late = c.modes, c.top, y, c.modes&api.Wrap != 0
+			want := s
+			want.Y, want.Late = c.want, false
+			if got, _ := Change(s, api.OK, (*Sheet).Home); !reflect.DeepEqual(got, want) {
+				t.Errorf("modes %d, Top %d, in row %d: %+v, want %+v", c.modes, c.top, y, got, want)
+			}
+		}
+	}
+	p := Sheet{Screen: api.Screen{X: 3, Y: 2}}
+	if p.Home(); p.X != 0 || p.Y != 0 {
+		t.Errorf("home is at %d, %d", p.X, p.Y)
+	}
+}
+
+// Nothing is left of what there was, the cells neither; and what it became is only read.
+func TestBecome(t *testing.T) {
+	s, other := column("abcd"), column("xyz")
+	s.Gone = [][]api.Cell{{{R: 'g'}}}
+	other.X, other.Y, other.Title, other.Gone = 0, 2, "another", [][]api.Cell{{{R: 'o'}}, {{R: 'p'}}}
+	got, e := Change(s, api.OK, func(p *Sheet) { p.Become(other) })
+	if e != api.OK || !reflect.DeepEqual(got, other) {
+		t.Errorf("%+v, %d, want %+v", got, e, other)
+	}
+	if &got.G.Cells[0] == &other.G.Cells[0] || &got.Tabs[0] == &other.Tabs[0] || &got.Gone[0] == &other.Gone[0] || &got.Gone[1][0] == &other.Gone[1][0] {
+		t.Error("what is answered shares memory with what it became")
+	}
+	got, _ = Change(s, api.OK, func(p *Sheet) {
+		p.Become(other)
+		p.Up(0)
+	})
+	if textOf(got.G.Cells) != "yz " || textOf(slices.Concat(got.Gone...)) != "opx" || textOf(other.G.Cells) != "xyz" || len(other.Gone) != 2 {
+		t.Errorf("moved up then: %+v, of %+v", got, other)
+	}
+}
