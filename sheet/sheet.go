@@ -6,8 +6,8 @@ import (
 	"strings"
 
 	"trellis/api"
-	"trellis/grid"
 	"trellis/halves"
+	"trellis/text"
 )
 
 // AllModes of a screen, and those of them that are kept with the cursor.
@@ -69,47 +69,40 @@ func (p *Sheet) blank() api.Cell { return api.Cell{R: ' ', S: api.Style{Back: p.
 
 func (p *Sheet) blanks(n int) []api.Cell { return slices.Repeat([]api.Cell{p.blank()}, n) }
 
-// alter the row y as how does, which is given it as a grid. (What is right stays so: no step within how fails.)
-func (p *Sheet) alter(y int, how func(api.Grid) api.Grid) {
-	row := api.Grid{W: p.G.W, H: 1, Cells: p.rows[y]}
-	p.rows[y] = how(row).Cells
-}
-
 // Clear the cells of the row y from the column first up to end, but not end itself.
 func (p *Sheet) Clear(y, first, end int) {
-	p.alter(y, func(row api.Grid) api.Grid {
-		row, _ = grid.Fill(row, api.Rect{X: first, W: end - first, H: 1}, p.blank())
-		return row
+	p.relay(y, func(row []api.Cell) []api.Cell {
+		return slices.Concat(row[:first], p.blanks(end-first), row[end:])
 	})
 }
 
-// Write r over the cells from X on, in the style S.
+// Write r over the cells from X on, which the row has, in the style S.
 func (p *Sheet) Write(r rune) {
-	p.alter(p.Y, func(row api.Grid) api.Grid {
-		row, _ = grid.Write(row, p.X, 0, string(r), p.S)
-		return row
+	cells := []api.Cell{{R: r, S: p.S}, {S: p.S}}[:text.Width(r)]
+	p.relay(p.Y, func(row []api.Cell) []api.Cell {
+		return slices.Concat(row[:p.X], cells, row[p.X+len(cells):])
 	})
 }
 
 // Insert n blanks at X, which the row has room for: the cells from there on go to the right, and what leaves the row goes.
 func (p *Sheet) Insert(n int) {
-	p.relay(func(row []api.Cell) []api.Cell {
+	p.relay(p.Y, func(row []api.Cell) []api.Cell {
 		return slices.Concat(row[:p.X], p.blanks(n), row[p.X:len(row)-n])
 	})
 }
 
 // Delete n cells from X on, which the row has: the others come to the left, and blanks behind them.
 func (p *Sheet) Delete(n int) {
-	p.relay(func(row []api.Cell) []api.Cell {
+	p.relay(p.Y, func(row []api.Cell) []api.Cell {
 		return slices.Concat(row[:p.X], row[p.X+n:], p.blanks(n))
 	})
 }
 
-// relay Y's row as how does, which answers new cells: runes may be cut by it, where cells part and where they meet.
-func (p *Sheet) relay(how func([]api.Cell) []api.Cell) {
-	row := how(p.rows[p.Y])
+// relay the row y as how does, which answers new cells: runes may be cut by it, where cells part and where they meet.
+func (p *Sheet) relay(y int, how func([]api.Cell) []api.Cell) {
+	row := how(p.rows[y])
 	halves.Mend(row)
-	p.rows[p.Y] = row
+	p.rows[y] = row
 }
 
 // Up: the rows from top on move up, once; the first one of the screen is kept.
@@ -148,5 +141,36 @@ func (p *Sheet) Feed() {
 		p.Up(p.Top)
 	case p.Y < p.G.H-1:
 		p.Y++
+	}
+}
+
+// Print r; one that takes no cell, as 0 and what is no rune, or more cells than a row has, does nothing.
+func (p *Sheet) Print(r rune) {
+	wide := text.Width(r)
+	if wide == 0 || wide > p.G.W {
+		return
+	}
+	fits := func() bool { return wide <= p.G.W-p.X }
+	if p.Late || p.Has(api.Wrap) && !fits() {
+		p.X = 0
+		p.Feed()
+	}
+	if !fits() {
+		return
+	}
+	if p.Has(api.Insert) {
+		p.Insert(wide)
+	}
+	p.Write(r)
+	p.advance(wide)
+	p.Last = r
+}
+
+// advance: X goes on by what was written; behind the last column there is none, so Late keeps it in mind.
+func (p *Sheet) advance(wide int) {
+	p.X += wide
+	if p.X == p.G.W {
+		p.X = p.G.W - 1
+		p.Late = p.Has(api.Wrap)
 	}
 }

@@ -235,3 +235,73 @@ func TestBecome(t *testing.T) {
 		t.Errorf("moved up then: %+v, of %+v", got, other)
 	}
 }
+
+// Print goes on behind what it printed, and to the next row only when there is something for it; what takes no cell, what is no rune and what no row has room for does nothing.
+func TestPrint(t *testing.T) {
+	for _, c := range []struct {
+		modes int
+		x     int
+		runes []rune
+		want  string
+		atX   int
+		atY   int
+		late  bool
+		last  rune
+	}{
+		{api.Wrap, 0, []rune{'x'}, "xbcdef", 1, 0, false, 'x'},
+		{api.Wrap, 1, []rune{'日'}, "a日\x00def", 2, 0, true, '日'},
+		{api.Wrap, 2, []rune{'日'}, "abc日\x00f", 2, 1, false, '日'},
+		{api.Wrap, 2, []rune{'x', 'y'}, "abxyef", 1, 1, false, 'y'},
+		{api.Insert, 0, []rune{'x'}, "xabdef", 1, 0, false, 'x'},
+		{api.Insert, 0, []rune{'日'}, "日\x00adef", 2, 0, false, '日'},
+		{0, 2, []rune{'x', 'y'}, "abydef", 2, 0, false, 'y'},
+		{0, 2, []rune{'日'}, "abcdef", 2, 0, false, 0},
+		{api.Wrap, 1, []rune{0, '\n', 0x301, 0xD800, -1, 0x110000}, "abcdef", 1, 0, false, 0},
+	} {
+		s := api.Screen{G: api.Grid{W: 3, H: 2}, X: c.x, Bottom: 1, Modes: c.modes, Tabs: make([]bool, 3)}
+		for _, r := range "abcdef" {
+			s.G.Cells = append(s.G.Cells, api.Cell{R: r})
+		}
+		got, _ := Change(s, api.OK, func(p *Sheet) {
+			for _, r := range c.runes {
+				p.Print(r)
+			}
+		})
+		if textOf(got.G.Cells) != c.want || got.X != c.atX || got.Y != c.atY || got.Late != c.late || got.Last != c.last {
+			t.Errorf("%q at %d, modes %d: %q, %d, %d, %t, last %q, want %q", c.runes, c.x, c.modes, textOf(got.G.Cells), got.X, got.Y, got.Late, got.Last, c.want)
+		}
+	}
+	if got, _ := Change(column("ab"), api.OK, func(p *Sheet) { p.Print('日') }); textOf(got.G.Cells) != "ab" || got.Y != 0 || got.Last != 0 {
+		t.Errorf("a rune wider than the screen: %+v", got)
+	}
+}
+
+// Write takes the look that is set, for both halves, and leaves no half of what was there.
+func TestWrite(t *testing.T) {
+	look, under := api.Style{Fore: 3, Back: 2, Bits: api.Bold}, api.Style{Fore: 5, Back: 6, Bits: api.Under}
+	cell := func(r rune, s api.Style) api.Cell { return api.Cell{R: r, S: s} }
+	a, wide, half, b, mended := cell('a', under), cell('日', under), cell(0, under), cell('b', under), cell(' ', under)
+	x, left, right := cell('x', look), cell('本', look), cell(0, look)
+	for _, c := range []struct {
+		x    int
+		r    rune
+		want []api.Cell
+	}{
+		{0, 'x', []api.Cell{x, wide, half, b}},
+		{1, 'x', []api.Cell{a, x, mended, b}},
+		{2, 'x', []api.Cell{a, mended, x, b}},
+		{3, 'x', []api.Cell{a, wide, half, x}},
+		{0, '本', []api.Cell{left, right, mended, b}},
+		{1, '本', []api.Cell{a, left, right, b}},
+		{2, '本', []api.Cell{a, mended, left, right}},
+	} {
+		for y := range 2 {
+			rows := slices.Repeat([]api.Cell{a, wide, half, b}, 2)
+			s := api.Screen{G: api.Grid{W: 4, H: 2, Cells: slices.Clone(rows)}, S: look, X: c.x, Y: y, Bottom: 1, Tabs: make([]bool, 4)}
+			got, _ := Change(s, api.OK, func(p *Sheet) { p.Write(c.r) })
+			if want := slices.Replace(slices.Clone(rows), y*4, y*4+4, c.want...); !slices.Equal(got.G.Cells, want) || !slices.Equal(s.G.Cells, rows) {
+				t.Errorf("%q at %d, %d: %v, want %v", c.r, c.x, y, got.G.Cells, want)
+			}
+		}
+	}
+}
